@@ -1,6 +1,6 @@
 """The way, and the calls that change it: begin, prime, down, up, turn, mirror, go, next, back."""
 
-from choicetriangle.forms import FULL, NO_STEPS, NO_SUCH, WRONG, counted
+from choicetriangle.forms import FULL, NONE_THERE, NO_SUCH, WRONG, counted
 from choicetriangle.primes import is_prime
 from choicetriangle.steps import number_of, rights_of, steps_numbered
 from choicetriangle.triangle import ways_to
@@ -47,7 +47,7 @@ def down(way, given):
 
 def up(way, given):
     if len(way.steps) == 0:
-        return [NO_STEPS]
+        return [NONE_THERE]
     way.steps.pop()
     return standing(way)
 

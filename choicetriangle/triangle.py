@@ -1,6 +1,6 @@
-"""The triangle of choices: what's at a place, and how often a prime divides it."""
+"""The triangle of choices: what's at a place, how often a prime divides it, and what that leaves."""
 
-from choicetriangle.digits import carry_count
+from choicetriangle.digits import carry_count, digits_of
 
 
 def ways_to(row, place):
@@ -14,10 +14,36 @@ def ways_to(row, place):
     return found
 
 
+def row_of(row):
+    """What's at each place of the row."""
+    return [ways_to(row, place) for place in range(row + 1)]
+
+
 def often_at(row, place, prime):
     """How often the prime divides what's at that place of the row."""
     # Just as often as it's carried; so the number itself, which may be huge, isn't needed.
     return carry_count(place, row - place, prime)
+
+
+def spared_of(row, prime):
+    """How many places of the row hold a number that the prime doesn't divide."""
+    found = 1
+    # Nothing is carried just where each digit of the place is at most the row's.
+    for digit in digits_of(row, prime):
+        found = found * (digit + 1)
+    return found
+
+
+def left_at(row, place, prime):
+    """What the prime leaves of what's at that place of the row; 0 where the row has no such place."""
+    found = 1
+    # What's left is that of each two digits, multiplied; beyond the row some digit of the place is greater.
+    # Where the place has no more digits 1 is left of each.
+    while place > 0:
+        found = found * ways_to(row % prime, place % prime) % prime
+        row = row // prime
+        place = place // prime
+    return found
 
 
 def ways_avoiding(row, place, prime):

@@ -11,7 +11,13 @@ number 10 0, often 11 0, left 12 0, divided 13 0, avoid 14 2, clean 15 0, turnst
 behind 18 1, best 19 0, told 20 0, digits 21 1, cross 22 1, carries 23 2, carriedat 24 2, three 25 3,
 divides 26 1, onemore 27 1, pairswith 28 2, mostcarries 29 1, like 30 1, fromdigits 31 4, without 32 2,
 product 33 1, productoften 34 1, rest 35 1, leastof 36 1, noughts 37 2, span 38 2, gaps 39 1,
-notsquare 40 1, twice 41 2, parts 42 1, jumps 43 1, choose 44 2, times 45 2, rowoften 46 1, spared 47 1
+notsquare 40 1, twice 41 2, parts 42 1, jumps 43 1, choose 44 2, times 45 2, rowoften 46 1, spared 47 1,
+whole 48 1, none 49 1, most 50 1, first 51 1, rows 52 1, bare 53 1, middle 54 1, below 55 1, with 56 2,
+leftat 57 2, rowleft 58 1, counts 59 1, nextplace 60 2, odd 61 2, odds 62 1, joined 63 4, sumleft 64 1,
+turnsleft 65 1, same 66 2, by 67 2, which 68 2, under 69 2, at 70 1, greatest 71 0, least 72 0, upto 73 0,
+shared 74 2, star 75 1, starproduct 76 1, hermite 77 1, dividing 78 1, great 79 1, places 80 1, even 81 0,
+fewest 82 0, sum 83 1, squares 84 0, stick 85 1, choice 86 2, between 87 1, meet 88 1, sharing 89 1,
+having 90 1, all 91 0, rights 92 0, gray 93 2, thingsum 94 0, waysof 95 1
 """
 NUMBERS = {}
 COUNTS = {}
@@ -59,6 +65,14 @@ def ask(*calls):
 def ask_prime(prime, call):
     """The answer to one call, of a way without steps."""
     return ask(f"begin {prime}", call)[1]
+
+
+def ask_many(prime, calls):
+    """The answers to the calls, however many, of a way without steps; in lists of at most 120 calls."""
+    found = []
+    for start in range(0, len(calls), 119):
+        found += ask(f"begin {prime}", *calls[start:start + 119])[1:]
+    return found
 
 
 def led(prime, steps):

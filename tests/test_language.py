@@ -174,6 +174,14 @@ class Trees(unittest.TestCase):
                 if called(node) in WALKED:
                     self.assertIn(node, fine, (stem, node.lineno))
 
+    def test_texts_and_keywords(self):
+        for stem, tree in TREES.items():
+            for node in ast.walk(tree):
+                if isinstance(node, ast.Constant) and isinstance(node.value, str):
+                    self.assertNotRegex(node.value, r"[%\\]", stem)
+                # None is written anywhere so far; those that the rules allow would be named here.
+                self.assertNotIsInstance(node, ast.keyword, stem)
+
     def test_is_stands_beside_none_true_and_false_alone(self):
         for tree in TREES.values():
             for node in ast.walk(tree):
